@@ -66,17 +66,3 @@ func checkFile(t *testing.T, name string, text []byte) {
 		}
 	}
 }
-
-// The project has no folders but these.
-func TestFoldersOfTheProject(t *testing.T) {
-	entries, err := os.ReadDir("..")
-	if err != nil {
-		t.Fatal(err)
-	}
-	allowed := []string{"impl", "tests", ".ci", ".git", "sharedtests"}
-	for _, e := range entries {
-		if e.IsDir() && !slices.Contains(allowed, e.Name()) {
-			t.Errorf("the folder %s does not belong here", e.Name())
-		}
-	}
-}
