@@ -102,23 +102,28 @@ func TestDerivativesOfAnyGraph(t *testing.T) {
 	}
 }
 
+// changeOneNumber writes another number, good or bad, into one of the graph's lists, none of which may be empty.
+func changeOneNumber(s *source, g impl.Graph) {
+	numbers := append(farInts(), 0, 1, 2, 3, 13, 14, 1000, 1001)
+	x := numbers[s.below(len(numbers))]
+	switch s.below(6) {
+	case 0:
+		g.Outs[s.below(len(g.Outs))] = x
+	case 1:
+		g.Ins[s.below(len(g.Ins))] = x
+	default:
+		v := &g.Vals[s.below(len(g.Vals))]
+		*append(fieldsOf(v), &v.Op, &v.Len)[s.below(5)] = x
+	}
+}
+
 // P4 and P5: graphs in which one number was changed, good or bad.
 func TestDerivativesOfChangedGraphs(t *testing.T) {
 	s := &source{21}
-	numbers := append(farInts(), 0, 1, 2, 3, 13, 14, 1000, 1001)
 	codes := map[int]int{}
 	for range 10000 {
 		g := closeGraph(s, 4+s.below(8))
-		x := numbers[s.below(len(numbers))]
-		switch s.below(6) {
-		case 0:
-			g.Outs[0] = x
-		case 1:
-			g.Ins[s.below(2)] = x
-		default:
-			v := &g.Vals[s.below(len(g.Vals))]
-			*append(fieldsOf(v), &v.Op, &v.Len)[s.below(5)] = x
-		}
+		changeOneNumber(s, g)
 		codes[checkGradCall(t, g, s.below(len(g.Vals)), s.below(len(g.Vals)))]++
 		codes[checkJvpCall(t, g, s.below(len(g.Vals)), s.below(len(g.Vals)), s.below(len(g.Vals)))]++
 	}
