@@ -9,7 +9,7 @@ import (
 	"loop.example/s08086/impl"
 )
 
-// unitOf answers the side on which the constant leaves the other operand as it is: "left", "right", "both" or "".
+// unitOf answers the side on which the constant leaves the other operand as it is: "right", "both" or "".
 func unitOf(op int, k float64) string {
 	sides := map[string]string{"mul 1": "both", "div 1": "right", "sub 0": "right", "add -0": "both"}
 	return sides[ruleOf(op).name+" "+floatText(k)]
@@ -21,16 +21,16 @@ func TestPassUnitOfEveryPair(t *testing.T) {
 	for _, op := range []int{impl.OpAdd, impl.OpSub, impl.OpMul, impl.OpDiv, impl.OpMax} {
 		for _, k := range floats {
 			for _, n := range []string{" : 1", " : 3"} {
-				g := strings.ReplaceAll("ins 1; const 9LEN; const "+floatText(k)+"LEN; OP 0 1LEN; OP 1 0LEN; ", "OP", ruleOf(op).name)
-				right, left := "2", "3"
+				right, left, both := "3", "4", "5"
 				if side := unitOf(op, k); side == "right" || side == "both" {
-					right = "0"
+					right, both = "0", "1"
 				}
 				if unitOf(op, k) == "both" {
 					left = "0"
 				}
-				g = strings.ReplaceAll(g, "LEN", n)
-				checkPass(t, impl.PassUnit, g+"outs 2 3", g+"outs "+right+" "+left)
+				g := "ins 1; const 9LEN; const KLEN; const KLEN; OP 0 1LEN; OP 1 0LEN; OP 1 2LEN; "
+				g = strings.NewReplacer("LEN", n, "K", floatText(k), "OP", ruleOf(op).name).Replace(g)
+				checkPass(t, impl.PassUnit, g+"outs 3 4 5", g+"outs "+right+" "+left+" "+both)
 			}
 		}
 	}
